@@ -1,0 +1,1 @@
+"""Parts with limits, assemblies of them, and what their limits cost."""

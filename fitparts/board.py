@@ -2,27 +2,25 @@
 
 from fitparts.assemblies import read_assembly
 from fitparts.faults import Fault
+from fitparts.fitting import answer_on_assembly
 from fitparts.lines import find_name
 from fitparts.parts import chain, first_bad, limits
-from fitparts.rounds import all_rounds, first_too_long
+from fitparts.pricing import answer_on_offers
+from fitparts.refusals import FAULTY, NONE_THERE, NOT_AS_MANY, NO_ASSEMBLY, NO_SUCH, TOO_LONG
+from fitparts.routes import all_routes
 from fitparts.sheets import read_sheet, write_sheet
 
 MOST_BYTES = 16384
-TOO_LONG = -1
-FAULTY = -2
-NO_ASSEMBLY = -3
-NO_SUCH = -4
-NOT_FOUND = -5
-NOT_AS_MANY = -6
+FIRST_ON_OFFERS = 13
 
 
 class Board:
-    """The parts of the sheet, and the assembly with its rounds, if there is one."""
+    """The parts of the sheet, and the assembly with its routes, if there is one."""
 
     def __init__(self):
         self.parts = []
         self.assembly = None
-        self.rounds = []
+        self.routes = None
 
 
 class Call:
@@ -45,7 +43,7 @@ def call_sheet(board, numbers, rows):
         return [FAULTY, e.kind, e.place]
     board.parts = parts
     board.assembly = None
-    board.rounds = []
+    board.routes = None
     return [len(parts)]
 
 
@@ -57,7 +55,7 @@ def call_text(board, numbers, rows):
 def call_find(board, numbers, rows):
     number = find_name(board.parts, rows[0])
     if number < 0:
-        return [NOT_FOUND]
+        return [NONE_THERE]
     part = board.parts[number]
     return [number, len(part.faces), len(part.dimensions)]
 
@@ -98,18 +96,8 @@ def call_assembly(board, numbers, rows):
     except Fault as e:
         return [FAULTY, e.kind, e.place]
     board.assembly = assembly
-    # Which rounds there are hangs on the relations alone: they're sought once, however often they're measured.
-    board.rounds = all_rounds(assembly.relations)
+    board.routes = all_routes(assembly)
     return [len(assembly.uses)]
-
-
-def call_goes(board, numbers, rows):
-    if board.assembly is None:
-        return [NO_ASSEMBLY]
-    found = first_too_long(board.rounds, board.assembly.uses)
-    if len(found) == 0:
-        return [0]
-    return [1] + found
 
 
 CALLS = {
@@ -120,8 +108,18 @@ CALLS = {
     5: call_chain,
     6: call_good,
     7: call_assembly,
-    8: call_goes,
 }
+
+
+def answer_to(board, call):
+    """The answer to one call."""
+    if call.number in CALLS:
+        return CALLS[call.number](board, call.numbers, call.rows)
+    if board.assembly is None:
+        return [NO_ASSEMBLY]
+    if call.number < FIRST_ON_OFFERS:
+        return answer_on_assembly(board, call.number, call.numbers, call.rows)
+    return answer_on_offers(board, call.number, call.numbers, call.rows)
 
 
 def read_call(calls, begin):
@@ -146,7 +144,7 @@ def answers(calls):
     place = 0
     while place < len(calls):
         call = read_call(calls, place)
-        answer = CALLS[call.number](board, call.numbers, call.rows)
+        answer = answer_to(board, call)
         given.append(len(answer))
         given.extend(answer)
         place = call.end

@@ -3,6 +3,10 @@
 LOOKS_LEFT = 0
 LOOKS_RIGHT = 1
 
+# Which of two limits is meant.
+LEAST = 0
+MOST = 1
+
 
 class Face:
     """A face's name and the side to which it looks."""
@@ -77,30 +81,24 @@ def chain(part, f, g):
     return steps_to(ways_from(part, f), g)
 
 
-def limits_of(part, steps):
-    """The least and the most that a row of steps comes to."""
-    least = 0
-    most = 0
-    for step in steps:
-        dimension = part.dimensions[abs(step) - 1]
-        if step > 0:
-            least += shortest(dimension)
-            most += longest(dimension)
-        else:
-            least -= longest(dimension)
-            most -= shortest(dimension)
-    return (least, most)
+def chains_from(part, f):
+    """The steps from face f to each face of a whole part."""
+    ways = ways_from(part, f)
+    return [steps_to(ways, g) for g in range(len(part.faces))]
+
+
+def step_limits(part, step):
+    """The least and the most that one step comes to."""
+    dimension = part.dimensions[abs(step) - 1]
+    if step > 0:
+        return (shortest(dimension), longest(dimension))
+    return (-longest(dimension), -shortest(dimension))
 
 
 def limits(part, f, g):
     """The limits from face f to face g of a whole part."""
-    return limits_of(part, chain(part, f, g))
-
-
-def limits_from(part, f):
-    """The limits from face f to each face of a whole part."""
-    ways = ways_from(part, f)
-    return [limits_of(part, steps_to(ways, g)) for g in range(len(part.faces))]
+    ends = [step_limits(part, step) for step in chain(part, f, g)]
+    return (sum([end[LEAST] for end in ends]), sum([end[MOST] for end in ends]))
 
 
 def first_bad(part, sizes):

@@ -3,9 +3,10 @@
 import unittest
 
 from fitparts.board import answers
-from tests.helper import (FITTED, PIN, SLOT, ask, assembly, between, chain, codes, find, goes, good, joined, sheet,
-                          sheet_text_answer, text)
+from tests.helper import (FITTED, PIN, SLOT, ask, assembly, best, between, chain, codes, find, gap, gapof, goes, good, idle,
+                          joined, judge, price, sheet, sheet_text_answer, text, wants, with_sizes)
 
+OFFERS = [[0, 0, -1000, 0, 5], [0, 0, -500, 0, 9], [1, 0, -1000, 1000, 4], [1, 0, -1000, 0, 6], [1, 0, -2500, 0, 1]]
 TIGHT = [line.replace("10.3", "10.1") for line in SLOT]
 
 
@@ -20,9 +21,18 @@ class Sealed(list):
     append = extend = insert = pop = remove = clear = sort = reverse = refuse
 
 
+def assembly_calls():
+    """Each of the calls that need an assembly, taken and refused."""
+    return [goes(), with_sizes([101000, 100000]), with_sizes([100000, 102000]), with_sizes([1]), with_sizes([1, 2]),
+            gap(0, 1, 1, 1), gap(0, 1, 2, 1), gapof(0, 1, 1, 1, [5, -5]), gapof(0, 1, 1, 1, [-5, 5]), gapof(0, 1, 1, 1, []),
+            gapof(0, 9, 1, 1, []), wants(), judge(OFFERS), judge([]), price([0, 2], OFFERS), price([1, 4], OFFERS),
+            price([2, 0], OFFERS), price([], []), best(-1, OFFERS), best(9, OFFERS), best(2 ** 40, OFFERS), best(0, []),
+            idle(OFFERS), idle([]), idle(OFFERS * 3)]
+
+
 def all_calls():
     """Each of the calls, taken and refused."""
-    return [text(), goes(), sheet(PIN + TIGHT), text(), find("slot"), find("x"), between(0, 0, 1), between(9, 0, 0),
+    return assembly_calls() + [sheet(PIN + TIGHT), assembly(FITTED)] + assembly_calls() + [text(), goes(), sheet(PIN + TIGHT), text(), find("slot"), find("x"), between(0, 0, 1), between(9, 0, 0),
             chain(1, 1, 0), chain(0, 0, 9), good(0, [100000]), good(0, []), good(2, []), assembly("x"), goes(),
             assembly(FITTED), goes(), sheet("x"), assembly(FITTED[:3]), goes(), text(), sheet("x" * 16385),
             assembly("x" * 16385)]
@@ -49,6 +59,22 @@ class Lists(unittest.TestCase):
         calls = sheet(PIN + TIGHT) + assembly(FITTED) + goes() * 398
         self.assertEqual(answers(calls), [1, 2, 1, 2] + [4, 1, 1000, 1, 2] * 398)
 
+    def test_lists_of_later_calls(self):
+        begin = sheet(PIN + TIGHT) + assembly(FITTED)
+        offer = [5, 0, 0, -1000, 0, 7]
+        calls = [13, 0, 0, 13, 0, 1] + offer + [14, 0, 1, 0, 14, 0, 1, 1, 0, 14, 0, 2, 1, 0] + offer + [14, 0, 2, 0] + offer
+        calls += [15, 1, -1, 1] + offer + [15, 1, 7, 1] + offer + [15, 1, 0, 0, 16, 0, 1] + offer + [16, 0, 0]
+        calls += [9, 0, 1, 0, 10, 4, 0, 0, 0, 0, 0, 11, 4, 0, 0, 0, 0, 1, 0, 12, 0, 0]
+        expected = [1, -8, 1, 1, 1, -8, 1, -8, 1, 7, 1, -9, 2, 7, 0, 1, -5, 1, -8, 2, 0, 0, 1, -8, 1, -6, 5, 0, 1, 0, 1, 0, 1, -6,
+                    1, 1]
+        self.assertEqual(answers(begin + calls), [1, 2, 1, 2] + expected)
+
+    def test_one_of_each_refusal(self):
+        given = ask(sheet("x" * 16385), sheet("x"), goes(), between(0, 0, 0), find("x"), good(0, []))
+        self.assertEqual(given, [[-1], [-2, 1, 0], [-3], [-4], [-5], [-4]])
+        given = ask(sheet(PIN + TIGHT), assembly(FITTED), with_sizes([]), with_sizes([1, 2]), judge([]), price([], OFFERS))
+        self.assertEqual(given[2:], [[-6], [-7], [-8], [-9]])
+
     def test_as_many_numbers_as_may_be(self):
         self.assertEqual(ask(sheet(PIN), find("x" * 23000)), [[1], [-5]])
         self.assertEqual(ask(good(0, [0] * 23000)), [[-4]])
@@ -67,7 +93,8 @@ class NothingChanged(unittest.TestCase):
         self.assertEqual(answers(calls), first)
 
     def test_nothing_is_kept(self):
-        ask(sheet(PIN + SLOT), assembly(FITTED), goes())
+        ask(sheet(PIN + SLOT), assembly(FITTED), *assembly_calls())
+        self.assertEqual(ask(*assembly_calls()), [[-3]] * len(assembly_calls()))
         self.assertEqual(ask(text(), find("pin"), goes()), [[0], [-5], [-3]])
 
     def test_answer_is_a_list_of_its_own(self):
@@ -83,14 +110,23 @@ class Refused(unittest.TestCase):
 
     REFUSED = [sheet("x"), sheet(PIN + PIN), sheet("x" * 16385), sheet(PIN[:-1]), assembly("x"), assembly(FITTED[:-1]),
                assembly(FITTED + ["end"]), assembly("x" * 16385), assembly(["assembly b", "use p x", "end"]), find("x"),
-               between(2, 0, 0), between(0, 2, 0), chain(0, 0, 2), good(2, [1]), good(0, [1, 2])]
+               between(2, 0, 0), between(0, 2, 0), chain(0, 0, 2), good(2, [1]), good(0, [1, 2]), with_sizes([1]),
+               with_sizes([1, 2]), gap(0, 0, 0, 2), gapof(0, 0, 2, 0, [1, 2]), gapof(0, 0, 0, 0, [1]),
+               gapof(0, 0, 0, 0, [2, 1]), judge([]), judge(OFFERS[:1] * 4), price([0], OFFERS), price([0, 4], OFFERS),
+               price([0, 2], []), best(99, OFFERS), best(-1, []), idle([])]
 
     def test_each(self):
         held = [sheet(PIN + TIGHT), assembly(FITTED)]
         for call in self.REFUSED:
-            given = ask(*held, call, text(), find("slot"), goes())
+            given = ask(*held, call, text(), find("slot"), goes(), gap(0, 1, 1, 1), wants(), best(-1, OFFERS))
             self.assertLess(given[2][0], 0)
-            self.assertEqual(given[3:], [sheet_text_answer(PIN + TIGHT), [1, 2, 1], [1, 1000, 1, 2]])
+            self.assertEqual(given[3:], [sheet_text_answer(PIN + TIGHT), [1, 2, 1], [1, 1000, 1, 2], [0, 1, 0, 1, 3000], [1],
+                                         [9, 0, 2]])
+
+    def test_each_is_told_alone(self):
+        for call in self.REFUSED:
+            given = ask(sheet(PIN + TIGHT), assembly(FITTED), call)[2]
+            self.assertEqual(len(given), 3 if given[0] == -2 else 1)
 
     def test_all_on_a_new_board(self):
         given = ask(*self.REFUSED, text(), goes())

@@ -3,17 +3,7 @@
 import itertools
 import unittest
 
-from tests.helper import Dice, FITTED, PIN, SLOT, ask, assembly, goes, last, sheet
-
-
-def block(name, size):
-    """A part between two faces."""
-    return [f"part {name}", "face a <", "face b >", f"dim a b {size}", "end"]
-
-
-def hall(name, size):
-    """A part around a room."""
-    return [f"part {name}", "face l >", "face r <", f"dim l r {size}", "end"]
+from tests.helper import Dice, FITTED, PIN, SLOT, ask, assembly, block, face_places, goes, hall, last, sheet
 
 
 class Refusals(unittest.TestCase):
@@ -148,21 +138,9 @@ def thrown_assembly(dice):
     return lines, text + ["end"], parts, uses, relations
 
 
-def place_faces(dims, sizes, start):
-    """The places of a part's faces with these sizes, from the starting one."""
-    places = {start: 0}
-    while len(places) < len(dims) + 1:
-        for dim, size in zip(dims, sizes):
-            if dim[0] in places:
-                places[dim[1]] = places[dim[0]] + size
-            elif dim[1] in places:
-                places[dim[0]] = places[dim[1]] - size
-    return places
-
-
 def goes_with(parts, uses, relations, sizes):
     """Whether true sizes have a placement: relations push uses to the right until none pushes any more."""
-    faces = [place_faces(parts[part][1], own, 0) for part, own in zip(uses, sizes)]
+    faces = [face_places(parts[part][1], own, 0) for part, own in zip(uses, sizes)]
     at = [0] * len(uses)
     for turn in range(len(uses) + 1):
         still = True
@@ -188,7 +166,7 @@ def all_sizes(parts, uses):
 
 def longest(parts, uses, use, f, g):
     dims = parts[uses[use]][1]
-    return max(place_faces(dims, sizes, f)[g] for sizes in itertools.product(*[(dim[2], dim[3]) for dim in dims]))
+    return max(face_places(dims, sizes, f)[g] for sizes in itertools.product(*[(dim[2], dim[3]) for dim in dims]))
 
 
 def first_round(parts, uses, relations):

@@ -1,6 +1,4 @@
-"""Going round: the closed rows of relations, and the first one that is too long."""
-
-from fitparts.parts import limits_from
+"""Rows of relations from use to use: the closed ones that go round, and those from one use to others."""
 
 
 class Step:
@@ -44,44 +42,34 @@ def is_closed(row):
     return row[-1].end.use == row[0].start.use
 
 
-def all_rounds(relations):
+def closed_rows(steps):
     """Every round that may be too long, each once, the first in order first.
 
     Rows of as many steps stay in order while they grow, as steps are taken in order.
     """
-    steps = all_steps(relations)
-    rounds = []
+    closed = []
     rows = [[step] for step in steps]
     while len(rows) > 0:
         rows = longer_rows(rows, steps)
-        rounds.extend([row for row in rows if is_closed(row)])
+        closed.extend([row for row in rows if is_closed(row)])
         rows = [row for row in rows if not is_closed(row)]
-    return rounds
+    return closed
 
 
-def limit_tables(uses):
-    """For each use the limits from each face of its part to each."""
-    tables = []
-    for use in uses:
-        tables.append([limits_from(use.part, face) for face in range(len(use.part.faces))])
-    return tables
+def last_use(row, use):
+    """The use at which a row from this use on ends."""
+    return row[-1].end.use if len(row) > 0 else use
 
 
-def greatest_length(steps, tables):
-    """A round's greatest length, with the limits that the tables tell."""
-    length = 0
-    come = steps[-1].end
-    for step in steps:
-        length += tables[come.use][come.face][step.start.face][1] + step.ticks
-        come = step.end
-    return length
-
-
-def first_too_long(rounds, uses):
-    """The greatest length and the marks of the first round whose length is above 0; none: an empty list."""
-    tables = limit_tables(uses)
-    for steps in rounds:
-        length = greatest_length(steps, tables)
-        if length > 0:
-            return [length] + [step.mark for step in steps]
-    return []
+def rows_from(steps, use):
+    """Every row of steps from a use on that comes to no use twice and not back to it; the row of none too."""
+    rows = [[]]
+    k = 0
+    while k < len(rows):
+        row = rows[k]
+        for step in steps:
+            is_next = step.start.use == last_use(row, use)
+            if is_next and step.end.use != use and not comes_to(row, step.end.use):
+                rows.append(row + [step])
+        k += 1
+    return rows
